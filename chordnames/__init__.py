@@ -1,0 +1,1 @@
+"""Chords, their names, and the way through keys."""
